@@ -625,7 +625,7 @@ func TestNames(t *testing.T) {
 			2 0 glue 'cn=a+entryid=2.0.0' [cn a; entryid 2.0.0]
 			3 1 live cn=b [cn b]
 			4 2 live cn=b [cn b]`},
-		{"a dead one is raised above another one that is raised: each where it was", []api.Change{
+		{"one that was renamed when it was raised keeps that when it is dead again", []api.Change{
 			add(1, 0, "cn=a"), add(2, 1, "cn=b"), add(3, 1, "cn=c"), del(2), move(3, 1, "cn=b"), add(4, 2, "cn=d"), del(4)}, `
 			1 0 live cn=a [cn a]
 			2 1 dead 'cn=b+entryid=2.0.0' []
